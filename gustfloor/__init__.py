@@ -1,0 +1,1 @@
+"""Gustfloor: where a steered ball can roll on a floor of gusty tiles."""
