@@ -2,8 +2,19 @@
 
 import unittest
 
+from kit import refused
+
+from gustfloor.errors import SplitSide
+from gustfloor.floors import Floor
 from gustfloor.ratios import Ratio
 from gustfloor.spans import Span, Spread
+from gustfloor.tiles import Tile
+
+
+def two_boxes():
+    a = Tile.box("a", (0, 0), (4, 4), ((1, 1), (1, 2)))
+    b = Tile.box("b", (4, 0), (8, 4), ((1, 1), (1, 2)))
+    return a, Floor([a, b])
 
 
 class ExampleTests(unittest.TestCase):
@@ -20,6 +31,21 @@ class ExampleTests(unittest.TestCase):
             str(Span.between(Ratio(1, 3), Ratio(1, 2)).simplest()),
         ]
         self.assertEqual(shown, ["[0, 2]", "[0, 1/2) [3, 3]", "2/5"])
+
+    def test_two_boxes(self):
+        a, floor = two_boxes()
+        shown = [
+            a.lets_in(((0, 0), (4, 0))),
+            a.lets_in(((4, 0), (4, 4))),
+            floor.kind(((0, 0), (4, 0))),
+            floor.kind(((4, 0), (4, 4))),
+            floor.kind(((0, 4), (4, 4))),
+        ]
+        self.assertEqual(shown, [True, False, "spring", "pass", "rest"])
+
+    def test_split_side(self):
+        corners = [(0, 0), (4, 0), (4, 4), (0, 4)]
+        refused(self, SplitSide, [((0, 0), (4, 0))], Tile, "a", corners, ((1, 0), (1, 1)))
 
 
 if __name__ == "__main__":
