@@ -59,7 +59,8 @@ def spread(text):
     """The spread of a text."""
     if text == "none":
         return Spread()
-    return Spread([span(part.strip()) for part in text.replace("]", "]|").replace(")", ")|").split("|") if part.strip()])
+    parts = text.replace("]", "]|").replace(")", ")|").split("|")
+    return Spread([span(part.strip()) for part in parts if part])
 
 
 def held_floor():
@@ -75,51 +76,44 @@ def held_floor():
 HELD_LOOP = (((0, 0), (2, 0)), ((0, 0), (0, 2)), ((-2, 0), (0, 0)), ((0, -2), (0, 0)))
 
 
+def turned_winds(winds, times):
+    """Winds turned to the left by so many quarters."""
+    for _ in range(times):
+        winds = tuple((-y, x) for x, y in winds)
+    return winds
+
+
 def round_floor(*factors):
-    """Four boxes round the corner (0, 0): a ball that enters one is carried from the distance s from the corner to the
-    distances from s * low to s * high, where factors are the pairs of the pairs (top, bottom) of low and high."""
-    (se, ne, nw, sw) = [((high[0], high[1]), (low[0], low[1])) for low, high in factors]
+    """Four boxes round the corner (0, 0), of which each one turns the ball to the left.
 
-    def turn(winds, times):
-        for _ in range(times):
-            winds = tuple((-y, x) for x, y in winds)
-        return winds
-
-    return Floor([
-        Tile.box("se", (0, -2), (2, 0), turn(se, 0)),
-        Tile.box("ne", (0, 0), (2, 2), turn(ne, 1)),
-        Tile.box("nw", (-2, 0), (0, 2), turn(nw, 2)),
-        Tile.box("sw", (-2, -2), (0, 0), turn(sw, 3)),
-    ])
+    Each carries it from the distance s from the corner to the distances from s * low to s * high; the factors are the
+    pairs (low, high) of pairs (top, bottom), beginning with se.
+    """
+    boxes = [("se", (0, -2), (2, 0)), ("ne", (0, 0), (2, 2)), ("nw", (-2, 0), (0, 2)), ("sw", (-2, -2), (0, 0))]
+    tiles = []
+    for at, (name, low, high) in enumerate(boxes):
+        tiles.append(Tile.box(name, low, high, turned_winds((factors[at][1], factors[at][0]), at)))
+    return Floor(tiles)
 
 
-def hole_floor(corners, ways):
-    """Eight boxes round a hole. For each corner the pair of factors, and for each way between two corners the pair of
-    numbers, by which the distance from the hole is multiplied, and by which it grows, as pairs (top, bottom)."""
-    def corner(at):
-        low, high = corners[at]
-        # The ball that ends near the hole was carried by the wind that lies more to the left.
-        return (high, low)
+def hole_floor(ways, corners):
+    """Eight boxes round a hole, of which each second one turns the ball to the left.
 
-    def way(at):
-        low, high = ways[at]
-        return ((4 * high[1], -4 * high[0]), (4 * low[1], -4 * low[0]))
-
-    def turn(winds, times):
-        for _ in range(times):
-            winds = tuple((-y, x) for x, y in winds)
-        return winds
-
-    return Floor([
-        Tile.box("south", (4, 0), (8, 4), turn(way(0), 0)),
-        Tile.box("se", (8, 0), (12, 4), turn(corner(0), 0)),
-        Tile.box("east", (8, 4), (12, 8), turn(way(1), 1)),
-        Tile.box("ne", (8, 8), (12, 12), turn(corner(1), 1)),
-        Tile.box("north", (4, 8), (8, 12), turn(way(2), 2)),
-        Tile.box("nw", (0, 8), (4, 12), turn(corner(2), 2)),
-        Tile.box("west", (0, 4), (4, 8), turn(way(3), 3)),
-        Tile.box("sw", (0, 0), (4, 4), turn(corner(3), 3)),
-    ])
+    The ways are pairs (low, high) of pairs (top, bottom): the distance from the hole grows by a number between both.
+    The corners likewise: the distance is multiplied by a number between both.
+    """
+    boxes = [
+        ("south", (4, 0), (8, 4)), ("se", (8, 0), (12, 4)), ("east", (8, 4), (12, 8)), ("ne", (8, 8), (12, 12)),
+        ("north", (4, 8), (8, 12)), ("nw", (0, 8), (4, 12)), ("west", (0, 4), (4, 8)), ("sw", (0, 0), (4, 4)),
+    ]
+    tiles = []
+    for at, (name, low, high) in enumerate(boxes):
+        if at % 2:
+            winds = (corners[at // 2][1], corners[at // 2][0])
+        else:
+            winds = tuple((4 * bottom, -top) for top, bottom in reversed(ways[at // 2]))
+        tiles.append(Tile.box(name, low, high, turned_winds(winds, at // 2)))
+    return Floor(tiles)
 
 
 HOLE_LOOP = (
@@ -145,6 +139,7 @@ def random_floor(chance, width, height, *, split=False, most=6, steady=3):
         xs.append(xs[-1] + 2 * chance.randint(1, 3))
     for _ in range(height):
         ys.append(ys[-1] + 2 * chance.randint(1, 3))
+    up, across = chance.choice([(0, 1), (1, 0)])
     skew = chance.choice([(1, 0, 0, 1), (2, 1, 0, 1), (1, 0, -1, 2), (2, 1, 1, 2), (0, -1, 1, 0), (1, 2, -1, 1)])
 
     def skewed(pair):
@@ -169,7 +164,7 @@ def random_floor(chance, width, height, *, split=False, most=6, steady=3):
                 while first[0] * second[1] - first[1] * second[0] <= 0:
                     first = (chance.randint(1, most), chance.randint(1, most))
                     second = (chance.randint(1, most), chance.randint(1, most))
-                turns = {(0, 0): 0, (1, 0): 1, (1, 1): 2, (0, 1): 3}[(row + height) % 2, column % 2]
+                turns = {(0, 0): 0, (1, 0): 1, (1, 1): 2, (0, 1): 3}[(row + up) % 2, (column + across) % 2]
                 for _ in range(turns):
                     first, second = (-first[1], first[0]), (-second[1], second[0])
                 winds = (skewed(first), skewed(second))

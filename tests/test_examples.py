@@ -2,11 +2,13 @@
 
 import unittest
 
-from kit import refused
+from kit import held_floor, refused
 
 from gustfloor.errors import SplitSide
 from gustfloor.floors import Floor
 from gustfloor.ratios import Ratio
+from gustfloor.reaching import reached
+from gustfloor.rounds import Round
 from gustfloor.spans import Span, Spread
 from gustfloor.tiles import Tile
 
@@ -42,6 +44,18 @@ class ExampleTests(unittest.TestCase):
             floor.kind(((0, 4), (4, 4))),
         ]
         self.assertEqual(shown, [True, False, "spring", "pass", "rest"])
+
+    def test_reached(self):
+        _, floor = two_boxes()
+        rows = reached(floor, (((0, 0), (4, 0)), Ratio(1, 2)))
+        shown = [len(rows), rows[1][0], str(rows[1][1]), rows[2][0], str(rows[2][1])]
+        self.assertEqual(shown, [3, ((4, 0), (4, 4)), "[1/2, 1)", ((4, 4), (8, 4)), "(0, 1/2]"])
+
+    def test_round(self):
+        loop = (((0, 0), (2, 0)), ((0, 0), (0, 2)), ((-2, 0), (0, 0)), ((0, -2), (0, 0)))
+        held = Round(held_floor(), loop)
+        shown = [str(held.room), str(held.image(Span.only(Ratio(1, 32)))), str(held.kept)]
+        self.assertEqual(shown, ["(0, 1)", "[1/32, 1/2]", "(0, 1)"])
 
     def test_split_side(self):
         corners = [(0, 0), (4, 0), (4, 4), (0, 4)]

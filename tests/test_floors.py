@@ -207,12 +207,19 @@ class RefusedTests(unittest.TestCase):
     def test_overlap(self):
         rows = [
             # The same, one within the other, with and without a common side, a cross, a corner within, an overhang.
-            ((0, 0), (4, 4)), ((1, 1), (3, 3)), ((0, 0), (3, 3)), ((-1, 1), (5, 3)), ((3, 3), (6, 6)), ((-9, -9), (9, 9)),
-            ((-4, 3), (1, 9)), ((2, 0), (6, 4)), ((0, -4), (4, 1)), ((3, -5), (9, 9)),
+            ((0, 0), (4, 4)), ((1, 1), (3, 3)), ((0, 0), (3, 3)), ((-1, 1), (5, 3)), ((3, 3), (6, 6)),
+            ((-9, -9), (9, 9)), ((-4, 3), (1, 9)), ((2, 0), (6, 4)), ((0, -4), (4, 1)), ((3, -5), (9, 9)),
         ]
         for low, high in rows:
             self.overlap("a", "c", A, box("c", low, high))
             self.overlap("c", "a", box("c", low, high), A)
+        # The least boxes and triangles that there are.
+        small = box("a", (0, 0), (1, 1))
+        self.overlap("a", "c", small, small.with_name("c"))
+        half = Tile("c", [(0, 0), (1, 0), (0, 1)], ((1, 1), (1, 2)))
+        self.overlap("a", "c", small, half)
+        self.overlap("c", "d", half, half.with_name("d"))
+        self.assertEqual(len(Floor([half, Tile("d", [(1, 0), (1, 1), (0, 1)], EAST)])), 2)
 
     def test_overlap_of_slanted_tiles(self):
         wedge = shape("w", (0, 0), (9, 1), (1, 9))
@@ -307,10 +314,8 @@ class PlaceTests(unittest.TestCase):
                 self.assertIs(self.floor.is_place((side, ratio)), True)
 
     def test_values_that_are_no_places(self):
-        wrong = [
-            (SIDES[0], ratio) for ratio in
-            [Ratio(0), Ratio(1), Ratio(-1, 2), Ratio(3, 2), Ratio(-1), Ratio(1, 1), Ratio(10 ** 50 + 1, 10 ** 50), Ratio(2)]
-        ]
+        outside = [Ratio(0), Ratio(1), Ratio(-1, 2), Ratio(3, 2), Ratio(-1), Ratio(10 ** 50 + 1, 10 ** 50), Ratio(2)]
+        wrong = [(SIDES[0], ratio) for ratio in outside]
         wrong += [(SIDES[0], value) for value in (None, True, 0, 1, "1/2", (1, 2), SIDES[0], A, [HALF])]
         wrong += [(value, HALF) for value in STRANGE + LISTS + NEAR_SIDES + [((0, 0), (8, 0))]]
         wrong += [[SIDES[0], HALF], (SIDES[0],), (SIDES[0], HALF, HALF), (HALF, SIDES[0]), SIDES[0], HALF, (0, 4)]
