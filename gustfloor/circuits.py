@@ -119,3 +119,9 @@ class Circuit:
             mirrored(low_cut(self._home)),
         )
         return between_cuts(mirrored(low), high)
+
+
+def circuit_along(web, loop):
+    """The circuit along the sides of a round, by the links of a web."""
+    links = [web[side][other] for side, other in zip(loop, loop[1:] + loop[:1])]
+    return Circuit(links, room_of(links))

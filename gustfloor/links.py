@@ -4,6 +4,7 @@ from gustfloor.cuts import high_cut, low_cut, places_between, places_of, unit
 from gustfloor.lines import Line
 from gustfloor.planes import cross, difference
 from gustfloor.ratios import Ratio
+from gustfloor.spans import Spread
 
 
 class Link:
@@ -31,6 +32,11 @@ class Link:
         if not self.rises():
             low, high = high, low
         return places_between(self._low.moved(low), self._high.moved(high))
+
+    def carried_spread(self, spread):
+        """What the steps from the ratios of a spread lead to, as a Spread."""
+        carried = [self.carried(span) for span in spread.walk()]
+        return Spread([span for span in carried if span is not None])
 
     def backward(self):
         """The link from the other side back to the one."""
@@ -61,14 +67,20 @@ def link_across(tile, side, other):
     return Link(tile.label, two, one)
 
 
-def link_between(floor, side, other):
-    """The link from one side of a floor to another one, or None if no tile leads from the one to the other."""
+def tile_between(floor, side, other):
+    """The tile of a floor that one side lets into and the other one out of, none of them a wall, or None."""
     if floor.kind(other) == "wall":
         return None
     for name in floor.into(side):
         if name in floor.tiles_at(other) and name not in floor.into(other):
-            return link_across(floor.tile(name), side, other)
+            return floor.tile(name)
     return None
+
+
+def link_between(floor, side, other):
+    """The link from one side of a floor to another one, or None if no tile leads from the one to the other."""
+    tile = tile_between(floor, side, other)
+    return None if tile is None else link_across(tile, side, other)
 
 
 def links_from(floor, side):

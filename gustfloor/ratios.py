@@ -28,21 +28,29 @@ def digits(number):
     return "".join(chunks[::-1])
 
 
-def all_digits(word):
-    """Whether a word consists of one or more of the digits 0 to 9."""
-    return word.isascii() and word.isdigit()
+def number_of(word):
+    """The number that a string of any length names, or None if it does not consist of decimal digits."""
+    above = word.removeprefix("-")
+    if not above.isascii() or not above.isdigit():
+        return None
+    # Python refuses to read as many digits at once as it refuses to write.
+    padded = above.zfill((len(above) // CHUNK + 1) * CHUNK)
+    number = 0
+    for at in range(0, len(padded), CHUNK):
+        number = number * CHUNK_LIMIT + int(padded[at:at + CHUNK])
+    return number if above == word else -number
 
 
-def read_parts(text):
-    """The top and the bottom that a text names, or None; the bottom may still be 0."""
-    top, slash, bottom = text.partition("/")
-    if not all_digits(top.removeprefix("-")):
+def ratio_of(text):
+    """The ratio that a string of any length is the text of, or None."""
+    word, slash, under = text.partition("/")
+    top = number_of(word)
+    bottom = number_of(under) if slash else 1
+    if top is None or not bottom:
         return None
-    if not slash:
-        return int(top), 1
-    if not all_digits(bottom):
-        return None
-    return int(top), int(bottom)
+    ratio = Ratio(top, bottom)
+    # A ratio has just one text, so any other way to write it is wrong.
+    return ratio if str(ratio) == text else None
 
 
 class Ratio:
@@ -62,12 +70,8 @@ class Ratio:
         """The ratio of a text; raises InvalidRatio(text)."""
         if not isinstance(text, str) or len(text) > MOST_LETTERS:
             raise InvalidRatio(text)
-        parts = read_parts(text)
-        if parts is None or parts[1] == 0:
-            raise InvalidRatio(text)
-        ratio = cls(parts[0], parts[1])
-        # A ratio has just one text, so any other way to write it is wrong.
-        if str(ratio) != text:
+        ratio = ratio_of(text)
+        if ratio is None:
             raise InvalidRatio(text)
         return ratio
 

@@ -1,7 +1,7 @@
 """What can be reached from a place, and from where it can be reached."""
 
 from gustfloor.changes import turned
-from gustfloor.circuits import Circuit, room_of
+from gustfloor.circuits import circuit_along
 from gustfloor.errors import InvalidPlace
 from gustfloor.links import web_of
 from gustfloor.rounds import loops_from
@@ -31,13 +31,8 @@ class Flood:
         side: what lies between both crossings would be inside of the loop and outside of it. So narrow rounds do.
         """
         if side not in self._circuits:
-            self._circuits[side] = [self.circuit(loop) for loop in loops_from(self._web, side, True)]
+            self._circuits[side] = [circuit_along(self._web, loop) for loop in loops_from(self._web, side, True)]
         return self._circuits[side]
-
-    def circuit(self, loop):
-        """The circuit along the sides of a round."""
-        links = [self._web[side][other] for side, other in zip(loop, loop[1:] + loop[:1])]
-        return Circuit(links, room_of(links))
 
     def take(self, side, spread):
         """Adds what can be reached on a side."""
@@ -83,10 +78,21 @@ def sources(floor, place):
     return reached(turned(floor), place)
 
 
+def by_side(rows):
+    """The dict of the spreads of rows by their sides."""
+    spreads = {}
+    for side, spread in rows:
+        spreads[side] = spread
+    return spreads
+
+
+def have(spreads, place):
+    """Whether spreads, by their sides, have a place."""
+    return place[0] in spreads and place[1] in spreads[place[0]]
+
+
 def can_reach(floor, start, *goals):
     """For each goal whether it can be reached from the start."""
     check_places(floor, [start, *goals])
-    spreads = {}
-    for side, spread in reached(floor, start):
-        spreads[side] = spread
-    return [goal[0] in spreads and goal[1] in spreads[goal[0]] for goal in goals]
+    spreads = by_side(reached(floor, start))
+    return [have(spreads, goal) for goal in goals]

@@ -30,6 +30,18 @@ NEAR_SIDES = [
     ((0, 0), (4, 1)), ((0, 0), (0, 0)), ((0, 0), (3, 0)), ((Ratio(0), Ratio(0)), (Ratio(4), Ratio(0))),
 ]
 
+# The sides of the two boxes, and values that look like a place on them and are not.
+HALF = Ratio(1, 2)
+LEFT, LOW, TOP = ((0, 0), (0, 4)), ((0, 0), (4, 0)), ((0, 4), (4, 4))
+MIDDLE = ((4, 0), (4, 4))
+LOWER, UPPER, RIGHT = ((4, 0), (8, 0)), ((4, 4), (8, 4)), ((8, 0), (8, 4))
+NO_PLACES = STRANGE + LISTS + NEAR_SIDES + [
+    [LOW, HALF], (LOW, Ratio(0)), (LOW, Ratio(1)), (LOW, Ratio(-1, 2)), (LOW, Ratio(3, 2)), (LOW, 1), (LOW, None),
+    (LOW, "1/2"), (list(LOW), HALF), (LOW[::-1], HALF), (LOW,), (LOW, HALF, HALF), (((0, 0), (8, 0)), HALF), LOW, HALF,
+]
+
+NO_COUNTS = [-1, -10 ** 50, True, False, None, "3", "", (3,), [3], [], Ratio(3), Ratio(-1, 2), pair_floor()]
+
 
 def refused(case, error, told, call, *args, **named):
     """Checks that a call raises just this error, with just these attributes behind one another."""
@@ -96,6 +108,18 @@ def round_floor(*factors):
     return Floor(tiles)
 
 
+def shrinking_floor():
+    """Each piece round the corner (0, 0) leads to 990 up to 999 thousandths of the distance."""
+    factor = ((99, 100), (999, 1000))
+    return round_floor(factor, factor, factor, factor)
+
+
+def shrunk(start, many):
+    """A ratio to which so many pieces, a multiple of four, lead on the shrinking floor, but no fewer."""
+    places = 10 ** 12
+    return Ratio(places * start.top * 99 ** many // (start.bottom * 100 ** many) + 1, places)
+
+
 def hole_floor(ways, corners):
     """Eight boxes round a hole, of which each second one turns the ball to the left.
 
@@ -119,6 +143,11 @@ def hole_floor(ways, corners):
 HOLE_LOOP = (
     ((4, 0), (4, 4)), ((8, 0), (8, 4)), ((8, 4), (12, 4)), ((8, 8), (12, 8)), ((8, 8), (8, 12)), ((4, 8), (4, 12)),
     ((0, 8), (4, 8)), ((0, 4), (4, 4)),
+)
+# The ways and corners of a hole round which one can go for ever from the ratios of [5/8, 1) of its first side alone.
+HELD_HOLE = (
+    [((3, 8), (1, 1)), ((1, 8), (1, 1)), ((1, 4), (3, 8)), ((-1, 1), (-3, 8))],
+    [((1, 1), (9, 8)), ((9, 8), (2, 1)), ((1, 1), (9, 8)), ((1, 1), (3, 2))],
 )
 
 

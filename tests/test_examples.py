@@ -4,6 +4,7 @@ import unittest
 
 from kit import held_floor, refused
 
+from gustfloor.deciding import decide, decide_rolling
 from gustfloor.errors import SplitSide
 from gustfloor.floors import Floor
 from gustfloor.ratios import Ratio
@@ -50,6 +51,17 @@ class ExampleTests(unittest.TestCase):
         rows = reached(floor, (((0, 0), (4, 0)), Ratio(1, 2)))
         shown = [len(rows), rows[1][0], str(rows[1][1]), rows[2][0], str(rows[2][1])]
         self.assertEqual(shown, [3, ((4, 0), (4, 4)), "[1/2, 1)", ((4, 4), (8, 4)), "(0, 1/2]"])
+
+    def test_decide(self):
+        _, floor = two_boxes()
+        start = (((0, 0), (4, 0)), Ratio(1, 2))
+        near, far = (((4, 4), (8, 4)), Ratio(1, 4)), (((4, 4), (8, 4)), Ratio(3, 4))
+        shown = [decide(floor, start, near).told(), decide(floor, start, far).told()]
+        self.assertEqual([*shown, decide(floor, start, far).holds()], ["way 2", "barred 3", True])
+
+    def test_decide_rolling(self):
+        paper = decide_rolling(held_floor(), (((0, 0), (2, 0)), Ratio(1, 2)))
+        self.assertEqual([paper.told(), paper.holds(), paper.places()[0] == paper.start], ["rolls 4", True, True])
 
     def test_round(self):
         loop = (((0, 0), (2, 0)), ((0, 0), (0, 2)), ((-2, 0), (0, 0)), ((0, -2), (0, 0)))

@@ -2,8 +2,8 @@ import unittest
 from random import Random
 
 from kit import (
-    HELD_LOOP, HOLE_LOOP, LISTS, NEAR_SIDES, STRANGE, held_floor, hole_floor, pair_floor, random_floor, random_place,
-    refused, round_floor, spread, texts,
+    HALF, HELD_LOOP, HOLE_LOOP, LEFT, LOW, LOWER, MIDDLE, NO_PLACES, RIGHT, TOP, UPPER, held_floor, hole_floor,
+    pair_floor, random_floor, random_place, refused, round_floor, spread, texts,
 )
 from model import Model, ends, span_of
 
@@ -16,18 +16,10 @@ from gustfloor.reaching import can_reach, reached, sources
 from gustfloor.spans import Span, Spread
 from gustfloor.tiles import Tile
 
-HALF = Ratio(1, 2)
-LEFT, LOW, TOP = ((0, 0), (0, 4)), ((0, 0), (4, 0)), ((0, 4), (4, 4))
-MIDDLE = ((4, 0), (4, 4))
-LOWER, UPPER, RIGHT = ((4, 0), (8, 0)), ((4, 4), (8, 4)), ((8, 0), (8, 4))
 QUARTER = ((1, 4), (1, 2))
 HALVED = ((1, 2), (1, 1))
 ONE = ((1, 1), (2, 1))
 TWO = ((2, 1), (4, 1))
-NO_PLACES = STRANGE + LISTS + NEAR_SIDES + [
-    [LOW, HALF], (LOW, Ratio(0)), (LOW, Ratio(1)), (LOW, Ratio(-1, 2)), (LOW, Ratio(3, 2)), (LOW, 1), (LOW, None),
-    (LOW, "1/2"), (list(LOW), HALF), (LOW[::-1], HALF), (LOW,), (LOW, HALF, HALF), (((0, 0), (8, 0)), HALF), LOW, HALF,
-]
 
 
 def has(rows, place):

@@ -2,7 +2,10 @@ import unittest
 from fractions import Fraction
 from random import Random
 
-from kit import LISTS, NEAR_SIDES, STRANGE, TILE, pair_floor, random_floor, refused, span
+from kit import (
+    LEFT, LISTS, LOW, LOWER, MIDDLE, NEAR_SIDES, RIGHT, STRANGE, TILE, TOP, UPPER, pair_floor, random_floor, refused,
+    span,
+)
 from model import Model, ends, ratio
 
 from gustfloor import steps
@@ -13,9 +16,6 @@ from gustfloor.spans import Span
 from gustfloor.steps import back_step, next_sides, step
 from gustfloor.tiles import Tile
 
-LEFT, LOW, TOP = ((0, 0), (0, 4)), ((0, 0), (4, 0)), ((0, 4), (4, 4))
-MIDDLE = ((4, 0), (4, 4))
-LOWER, UPPER, RIGHT = ((4, 0), (8, 0)), ((4, 4), (8, 4)), ((8, 0), (8, 4))
 SIDES = [LEFT, LOW, TOP, MIDDLE, LOWER, UPPER, RIGHT]
 NO_SIDES = STRANGE + LISTS + NEAR_SIDES + [((0, 0), (4, 4)), ((0, 0), (8, 0))]
 
