@@ -30,12 +30,13 @@ NEAR_SIDES = [
     ((0, 0), (4, 1)), ((0, 0), (0, 0)), ((0, 0), (3, 0)), ((Ratio(0), Ratio(0)), (Ratio(4), Ratio(0))),
 ]
 
+ANY = STRANGE + LISTS + NEAR_SIDES
 # The sides of the two boxes, and values that look like a place on them and are not.
 HALF = Ratio(1, 2)
 LEFT, LOW, TOP = ((0, 0), (0, 4)), ((0, 0), (4, 0)), ((0, 4), (4, 4))
 MIDDLE = ((4, 0), (4, 4))
 LOWER, UPPER, RIGHT = ((4, 0), (8, 0)), ((4, 4), (8, 4)), ((8, 0), (8, 4))
-NO_PLACES = STRANGE + LISTS + NEAR_SIDES + [
+NO_PLACES = ANY + [
     [LOW, HALF], (LOW, Ratio(0)), (LOW, Ratio(1)), (LOW, Ratio(-1, 2)), (LOW, Ratio(3, 2)), (LOW, 1), (LOW, None),
     (LOW, "1/2"), (list(LOW), HALF), (LOW[::-1], HALF), (LOW,), (LOW, HALF, HALF), (((0, 0), (8, 0)), HALF), LOW, HALF,
 ]

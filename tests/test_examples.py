@@ -5,12 +5,15 @@ import unittest
 from kit import held_floor, refused
 
 from gustfloor.deciding import decide, decide_rolling
+from gustfloor.desk import Desk
 from gustfloor.errors import SplitSide
 from gustfloor.floors import Floor
+from gustfloor.hall import Hall
 from gustfloor.ratios import Ratio
 from gustfloor.reaching import reached
 from gustfloor.rounds import Round
 from gustfloor.spans import Span, Spread
+from gustfloor.texts import floor_text
 from gustfloor.tiles import Tile
 
 
@@ -62,6 +65,20 @@ class ExampleTests(unittest.TestCase):
     def test_decide_rolling(self):
         paper = decide_rolling(held_floor(), (((0, 0), (2, 0)), Ratio(1, 2)))
         self.assertEqual([paper.told(), paper.holds(), paper.places()[0] == paper.start], ["rolls 4", True, True])
+
+    def test_floor_text(self):
+        _, floor = two_boxes()
+        text = "tile a 0,0 4,0 4,4 0,4 | 1,1 1,2\ntile b 4,0 8,0 8,4 4,4 | 1,1 1,2\n"
+        self.assertEqual(floor_text(floor), text)
+
+    def test_desk(self):
+        _, floor = two_boxes()
+        desk = Desk(Hall(floor))
+        lines = [
+            desk("mark m 0,0:4,0@1/2"), desk("mark n 4,4:8,4@1/4"), desk("reach m n"), desk("far m n"),
+            desk("wall 4,0:4,4"), desk("reach m n"),
+        ]
+        self.assertEqual(lines, ["done", "done", "yes", "2", "done", "no"])
 
     def test_round(self):
         loop = (((0, 0), (2, 0)), ((0, 0), (0, 2)), ((-2, 0), (0, 0)), ((0, -2), (0, 0)))

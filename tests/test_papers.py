@@ -2,8 +2,8 @@ import unittest
 from random import Random
 
 from kit import (
-    HALF, HELD_HOLE, HELD_LOOP, HOLE_LOOP, LEFT, LISTS, LOW, MIDDLE, NEAR_SIDES, NO_PLACES, RIGHT, STRANGE, TOP, UPPER,
-    held_floor, hole_floor, pair_floor, random_floor, round_floor, span, spread,
+    ANY, HALF, HELD_HOLE, HELD_LOOP, HOLE_LOOP, LEFT, LOW, MIDDLE, NO_PLACES, RIGHT, TOP, UPPER, held_floor,
+    hole_floor, pair_floor, random_floor, round_floor, span, spread,
 )
 
 from gustfloor import papers
@@ -19,7 +19,6 @@ PLACES = [START, (MIDDLE, Ratio(3, 4)), GOAL]
 ROWS = [(LOW, spread("[1/2, 1/2]")), (MIDDLE, spread("[1/2, 1)")), (UPPER, spread("(0, 1/2]"))]
 FIRST = HELD_LOOP[0]
 ALL = Span.between(Ratio(0), Ratio(1))
-ANY = STRANGE + LISTS + NEAR_SIDES
 QUARTER = ((1, 4), (1, 2))
 
 
