@@ -108,7 +108,7 @@ def read_place(text):
 
 def lines_of(text):
     """The lines of a text, without their line feeds; raises InvalidText for any value that has no whole lines."""
-    if not isinstance(text, str) or not text:
+    if not isinstance(text, str):
         raise InvalidText(0)
     if not text.endswith("\n"):
         raise InvalidText(text.count("\n"))
@@ -118,7 +118,7 @@ def lines_of(text):
 def written_tile(line):
     """The tile that a line tells, or None."""
     words = line.split(" ")
-    if len(words) < 5 or words[-3] != "|":
+    if words[-3:-2] != ["|"]:
         return None
     corners = [written_point(word) for word in words[2:-3]]
     winds = [written_point(word) for word in words[-2:]]

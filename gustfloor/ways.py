@@ -49,7 +49,6 @@ def shortest_way(floor, start, goal, most):
 
 def fewest(floor, start, goal):
     """The least number of pieces of a way, or None if there is no way."""
-    check_places(floor, [start, goal])
     if not can_reach(floor, start, goal)[0]:
         return None
     trail = Trail(floor, start)

@@ -493,6 +493,8 @@ class AnswerTests(unittest.TestCase):
         self.check_kept(without, ("clear", "n"))
         self.check_kept(without, ("mark", "n", FAR))
         self.check_kept(without, PART, ("mark", "n", (DIAGONAL, HALF)))
+        self.check_kept(without, PART, ("clear", "n"))
+        self.check_kept(without, ("clear", "n"), PART)
         self.check_kept([], ("clear", "n"), ("clear", "m"), ("clear", "o"))
         self.check_kept([("n", "n")], ("mark", "m", NEAR), ("mark", "o", NEAR))
 
@@ -651,8 +653,23 @@ class TwinTests(unittest.TestCase):
             changing.undo()
             changing.undo()
             self.assertEqual(state(halls[other]), before)
+            changing.redo()
+            changing.redo()
+            self.assertEqual(state(halls[other]), before)
             halls[other].redo()
             self.assertEqual(halls[other].floor, pair_floor(walls=[MIDDLE]))
+
+    def test_steps_that_were_undone(self):
+        for one, other in ((0, 1), (1, 0)):
+            hall = marked("a", "b", "c")
+            hall.undo()
+            hall.undo()
+            halls = [hall, hall.twin()]
+            halls[one].redo()
+            self.assertEqual([halls[one].history(), halls[other].history()], [(2, 1), (1, 2)])
+            halls[other].redo()
+            halls[other].redo()
+            self.assertEqual([halls[one].history(), halls[other].history()], [(2, 1), (3, 0)])
 
     def test_more_marks_than_the_limit(self):
         hall = marked("a", "b", "c")

@@ -110,16 +110,18 @@ class KeptTests(unittest.TestCase):
 
     def test_lists_of_any_values(self):
         for given in ([], ANY, tuple(ANY), [[1, [2, (3, [4])]]], [START], ROWS):
-            papers_ = [way(places=given), barred(rows=given), rolling(places=given), resting(rows=given)]
-            for paper in papers_:
-                told = paper.places() if paper.KIND in ("way", "rolls") else paper.rows()
-                self.assertIs(told.__class__, list)
-                self.assertEqual(told, list(given))
+            floor = pair_floor()
+            told = [way(places=given), barred(rows=given), Rolling(floor, 1, given, 2, 3), resting(rows=given)]
+            for paper in told:
+                values = paper.places() if paper.KIND in ("way", "rolls") else paper.rows()
+                self.assertIs(values.__class__, list)
+                self.assertEqual(values, list(given))
 
     def test_given_lists_are_copied(self):
         places, rows, inner = list(PLACES), list(ROWS), [1, [2]]
         told = [way(places=places), rolling(places=places), barred(rows=rows), resting(rows=rows)]
         nested = [way(places=[inner, (inner,)]), rolling(places=[inner, (inner,)])]
+        nested_rows = [barred(rows=[inner, (inner,)]), resting(rows=[inner, (inner,)])]
         kept = [way(start=inner, goal=(inner,)), barred(start=inner, goal=(inner,)), resting(start=inner)]
         round_paper = rolling(start=inner, loop=(inner,), held=inner)
         places.clear()
@@ -130,6 +132,8 @@ class KeptTests(unittest.TestCase):
         self.assertEqual([told[2].rows(), told[3].rows()], [ROWS, ROWS])
         for paper in nested:
             self.assertEqual(paper.places(), [[1, [2]], ([1, [2]],)])
+        for paper in nested_rows:
+            self.assertEqual(paper.rows(), [[1, [2]], ([1, [2]],)])
         for paper in kept:
             self.assertEqual(paper.start, [1, [2]])
         self.assertEqual([paper.goal for paper in kept[:2]], [([1, [2]],)] * 2)
@@ -151,9 +155,9 @@ class KeptTests(unittest.TestCase):
         for told in (paper.start, paper.loop, paper.span):
             told.append(4)
         self.assertEqual((paper.start, paper.loop, paper.span), ([1], [2], [3]))
-        paper = way(goal=([1],))
-        paper.goal[0].append(2)
-        self.assertEqual(paper.goal, ([1],))
+        for paper in (way(goal=([1],)), barred(goal=([1],))):
+            paper.goal[0].append(2)
+            self.assertEqual(paper.goal, ([1],))
 
     def test_properties_are_not_assigned(self):
         names = {"start": way(), "floor": way(), "goal": barred(), "loop": rolling(), "span": rolling()}
